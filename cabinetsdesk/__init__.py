@@ -1,0 +1,1 @@
+"""A cabinet formed: parties in a hall, who can govern, and who holds which office."""
