@@ -4,10 +4,10 @@ Each is given a state of its own to change, and answers as the call does: where 
 the caller throws that state away.
 """
 
-from cabinetsdesk.groups import bit, has
+from cabinetsdesk.groups import NOBODY, bit, has
 from cabinetsdesk.party import Party, right_cares, right_seats, right_wants, right_worth
 from cabinetsdesk.refusals import ABSENT, ALREADY, FULL, GOVERNED, IMPOSSIBLE, WRONG
-from cabinetsdesk.turns import plain_holders
+from cabinetsdesk.turns import holders_by_turns
 from cabinetsdesk.votes import stands
 
 MOST_PARTIES = 5
@@ -15,17 +15,17 @@ MOST_PARTIES = 5
 
 def install(state, group):
     state.cabinet = group
-    state.holders = plain_holders(state, group)
+    state.holders = holders_by_turns(state, group, NOBODY)
 
 
 def dismiss(state):
-    state.cabinet = 0
+    state.cabinet = NOBODY
     state.holders = []
 
 
 # The answer of a change that may bring down who governs: 1 it did, 0 it did not.
 def settle(state):
-    if state.cabinet == 0 or stands(state, state.cabinet):
+    if state.cabinet == NOBODY or stands(state, state.cabinet):
         return [0]
     dismiss(state)
     return [1]
@@ -39,7 +39,7 @@ def add_party(state, values):
         return [WRONG]
     if not right_worth(worth, state.offices):
         return [WRONG]
-    if state.cabinet != 0:
+    if state.cabinet != NOBODY:
         return [GOVERNED]
     if len(state.parties) == MOST_PARTIES:
         return [FULL]
@@ -116,7 +116,7 @@ def forget(state, values):
 
 
 def form(state, values):
-    if state.cabinet != 0:
+    if state.cabinet != NOBODY:
         return [GOVERNED]
     if not stands(state, values[0]):
         return [IMPOSSIBLE]
@@ -136,7 +136,7 @@ def leaves(state, values):
 
 
 def resign(state, values):
-    if state.cabinet == 0:
+    if state.cabinet == NOBODY:
         return [ABSENT]
     gone = state.cabinet
     dismiss(state)

@@ -1,10 +1,14 @@
 """The object that calls are made on: a hall as it is now, and what can be taken back or done again."""
 
 from cabinetsdesk.changes import is_change, make_change
+from cabinetsdesk.coalitions import answer_coalition_call, is_coalition_call
 from cabinetsdesk.groups import everyone
 from cabinetsdesk.line import answer_line_call, is_line_call
+from cabinetsdesk.looking import answer_looking_call, stock
+from cabinetsdesk.offices import answer_office_call, is_office_call
 from cabinetsdesk.reading import GROUP, PARTY
 from cabinetsdesk.refusals import ABSENT, NO_HALL, UNKNOWN, WRONG
+from cabinetsdesk.sharings import answer_sharing_call, is_sharing_call
 from cabinetsdesk.state import State
 from cabinetsdesk.votes import answer_vote_call, is_vote_call
 
@@ -27,7 +31,13 @@ def ask(state, name, values):
         return answer_vote_call(state, name, values)
     if is_line_call(name):
         return answer_line_call(state, name, values)
-    raise NotImplementedError(f"the call {name} is not written yet")
+    if is_office_call(name):
+        return answer_office_call(state, name, values)
+    if is_sharing_call(name):
+        return answer_sharing_call(state, name, values)
+    if is_coalition_call(name):
+        return answer_coalition_call(state, name, values)
+    return answer_looking_call(state, name, values)
 
 
 # States that were are kept whole and never changed again: taking back is putting one in its place.
@@ -68,6 +78,9 @@ class Desk:
         self.current = self.later.pop()
         return [len(self.later)]
 
+    def tell(self):
+        return stock(self.current) + [len(self.earlier), len(self.later)]
+
     def answer(self, call):
         if call.name == "begin":
             return self.begin(call.taken[0], call.taken[1])
@@ -79,6 +92,8 @@ class Desk:
             return self.back()
         if call.name == "again":
             return self.again()
+        if call.name == "state":
+            return self.tell()
         if is_change(call.name):
             return self.change(call.name, call.taken)
         return ask(self.current, call.name, call.taken)

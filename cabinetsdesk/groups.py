@@ -1,5 +1,7 @@
 """Sets of parties, told as numbers: party i counts 1 << i."""
 
+NOBODY = 0
+
 
 def bit(party):
     return 1 << party
@@ -40,7 +42,3 @@ def least_groups(state, groups):
         if not any([rest in groups for rest in lessened(state, group)]):
             least.append(group)
     return least
-
-
-def counted(numbers):
-    return [len(numbers)] + numbers

@@ -1,15 +1,17 @@
 """All that a hall holds at one time."""
 
+from cabinetsdesk.groups import NOBODY
+
 
 class State:
-    # likes and hates hold, for each party, a set of parties as a number; a cabinet of 0 is nobody.
+    # likes and hates hold, for each party, a set of parties as a number.
     def __init__(self, rule, offices):
         self.rule = rule
         self.offices = offices
         self.parties = []
         self.likes = []
         self.hates = []
-        self.cabinet = 0
+        self.cabinet = NOBODY
         self.holders = []
 
     def twin(self):

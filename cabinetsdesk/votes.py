@@ -1,6 +1,7 @@
 """Who votes for a set, which sets stand, and the calls that ask for it."""
 
-from cabinetsdesk.groups import counted, every_group, has, least_groups, members, seats_in
+from cabinetsdesk.answering import counted, yes_or_no
+from cabinetsdesk.groups import NOBODY, every_group, has, least_groups, members, seats_in
 from cabinetsdesk.refusals import IMPOSSIBLE
 
 IN_FAVOUR = 0
@@ -31,7 +32,7 @@ def at_odds(state, group):
 
 
 def stands(state, group):
-    if group == 0 or at_odds(state, group):
+    if group == NOBODY or at_odds(state, group):
         return False
     seats = tally(state, group)
     if state.rule == 0:
@@ -50,7 +51,7 @@ def answer_vote(state, values):
 
 
 def answer_stands(state, values):
-    return [1 if stands(state, values[0]) else 0]
+    return [yes_or_no(stands(state, values[0]))]
 
 
 def answer_standing(state, values):

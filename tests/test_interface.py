@@ -41,6 +41,7 @@ class Written(unittest.TestCase):
     def test_all_answers_are_whole_numbers(self):
         calls = hall([3, 4], places=[1, 2]) + [
             ("stands", 1), ("joined", 1), ("like", 0, 1), ("form", 3), ("leaves", 0), ("middle",), ("part", 0)]
+        calls += [call_of(name) for name in NAMES[14:]]
         for number in answers(written(calls)):
             self.assertIs(type(number), int)
 
@@ -52,14 +53,16 @@ class Written(unittest.TestCase):
             __setitem__ = __delitem__ = __iadd__ = __imul__ = refuse
 
         numbers = written(hall([3, 4, 5], offices=2, places=[1, 2, 3]) + [
-            ("form", 7), ("worth", 0, [3, 4]), ("leaves", 1), ("back",), ("again",), ("tight",)])
+            ("form", 7), ("worth", 0, [3, 4]), ("leaves", 1), ("back",), ("again",)] + [
+            call_of(name) for name in NAMES[14:]])
         before = list(numbers)
         first = answers(numbers)
         self.assertEqual(numbers, before)
         self.assertEqual(answers(Watched(numbers)), first)
 
     def test_nothing_is_kept_from_one_time_to_the_next(self):
-        numbers = written(hall([3, 4, 5]) + [("hate", 0, 1), ("form", 4), ("standing",), ("resign",), ("back",)])
+        numbers = written(hall([3, 4, 5]) + [("hate", 0, 1), ("form", 4), ("standing",), ("resign",), ("back",)] + [
+            call_of(name) for name in NAMES[14:]])
         first = answers(numbers)
         self.assertEqual(answers(numbers), first)
         self.assertEqual(ask(("standing",)), [[-61]])
@@ -75,6 +78,12 @@ class Written(unittest.TestCase):
     def test_five_thousand_calls(self):
         found = ask(*(hall([3]) + [("tight",)] * 4998))
         self.assertEqual(found[2:], [[1, 1]] * 4998)
+
+    def test_five_thousand_of_the_longer_ones(self):
+        five = hall([5, 4, 4, 3, 3], offices=5, places=[3, 9, 1, 20, 15], worth=[[5, 4, 3, 2, 1]] * 5)
+        asked = [("ahead", 31), ("holding",), ("stable",), ("calm",), ("swaps", 31, 1), ("on", 1)]
+        found = ask(*five, *(asked * 832))
+        self.assertEqual(found[6:], found[6:12] * 832)
 
 
 class BeforeTheBegin(unittest.TestCase):
@@ -158,29 +167,51 @@ class Refused(unittest.TestCase):
             (("worth", 0, [1, 51]), -22), (("like", 1, 1), -22), (("like", 1, 0), -17), (("hate", 2, 2), -22),
             (("hate", 2, 1), -17), (("forget", 0, 1), -6), (("form", 1), -16), (("form", 8), -2),
             (("leaves", 1), -6), (("leaves", 7), -2), (("vote", 0), -2), (("stands", 9), -2), (("part", 3), -2),
-            (("joined", 16), -2),
+            (("joined", 16), -2), (("motion", 31, 0), -22), (("motion", 0, 31), -22), (("order", 8), -2),
+            (("plain", 0), -2), (("ahead", 8), -2), (("alone", 8, 0), -2), (("alone", 3, 3), -2), (("alone", 3, 2), -6),
+            (("alone", 8, 3), -2), (("gains", 8, 2), -2), (("gains", 3, 2), -22), (("swaps", 8, 2), -2),
+            (("swaps", 3, 2), -22), (("beats", 0, 0, 0, 3), -2), (("beats", 3, 0, 0, 0), -2), (("beaters", 0, 3), -2),
+            (("unseaters", 3, 0), -2), (("fall", 3, 3), -2), (("deal", 8), -2), (("leave", 0), -2), (("on", 9), -2),
+            (("best", 3), -2), (("best", 31), -2), (("look", 3), -2),
         ):
             self.check(self.GOVERNED, call, number)
 
     def test_where_nobody_governs(self):
         for call, number in (
             (("party", 1, 1, 1, 1, 1, [1]), -28), (("form", 3), -33), (("form", 8), -33), (("leaves", 0), -6),
-            (("resign",), -6), (("like", 2, 3), -17), (("forget", 3, 2), -6),
+            (("resign",), -6), (("like", 2, 3), -17), (("forget", 3, 2), -6), (("governs",), -6),
         ):
             self.check(self.FULL, call, number)
+        # Party 2 could govern only with one that it hates.
+        self.check(self.FULL + [("seats", 0, 20), ("hate", 0, 2)], ("best", 2), -33)
 
     def test_where_there_is_nothing(self):
         empty = [("begin", 0, 1)]
         for name, number in (("back", -6), ("again", -6), ("resign", -6), ("fewest", -33), ("smallest", -33),
-                             ("narrowest", -33)):
+                             ("narrowest", -33), ("governs", -6)):
             self.check(empty, (name,), number)
         self.check(hall([3]), ("again",), -6)
 
+    # The calls 14 to 49 with numbers that are taken, and some that are not.
+    QUESTIONS = [call_of(name) for name in NAMES[14:]] + [call_of(name, group=5, party=2) for name in NAMES[14:]]
+    QUESTIONS += [call_of(name, party=3, group=8, number=31) for name in NAMES[14:]]
+
     def test_questions_change_nothing(self):
-        for call in (("vote", 5), ("stands", 5), ("standing",), ("tight",), ("fewest",), ("smallest",), ("part", 1),
-                     ("middle",), ("joined", 5), ("neighbours",), ("narrowest",)):
-            with self.subTest(call=call):
-                self.assertEqual(photo_after(*self.GOVERNED, call), photo_after(*self.GOVERNED))
+        for before in (self.GOVERNED, self.FULL):
+            for call in self.QUESTIONS:
+                with self.subTest(call=call):
+                    self.assertEqual(photo_after(*before, call), photo_after(*before))
+
+    def test_all_looks_the_same_behind_them(self):
+        for before in (self.GOVERNED, self.FULL):
+            told = [("state",), ("governs",), ("look", 0), ("look", 1), ("look", 2)]
+            plainly = ask(*before, *told, ("again",), *told, ("back",), ("back",), *told)[len(before):]
+            asked = before + self.QUESTIONS
+            found = ask(*asked, *told, ("again",), *told, ("back",), ("back",), *told)[len(asked):]
+            self.assertEqual(found, plainly)
+            for call in self.QUESTIONS:
+                with self.subTest(call=call):
+                    self.assertEqual(ask(*before, *told, call, *told)[-5:], plainly[:5])
 
     def test_what_can_be_done_again_outlives_a_refusal(self):
         self.assertEqual(ask(*self.GOVERNED, ("seats", 0, 0), ("form", 1), ("leaves", 1), ("again",))[-4:],

@@ -102,6 +102,6 @@ class Language(unittest.TestCase):
             self.assertEqual([one for one in bound if one.startswith("_")], [], path.name)
             for node in ast.walk(tree):
                 if isinstance(node, ast.Name) and hasattr(builtins, node.id):
-                    self.assertIn(node.id, OWN_NAMES + ["NotImplementedError"], path.name)
+                    self.assertIn(node.id, OWN_NAMES, path.name)
                 if isinstance(node, ast.Call) and isinstance(node.func, ast.Attribute):
                     self.assertIn(node.func.attr, METHODS + methods, path.name)

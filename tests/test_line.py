@@ -1,8 +1,8 @@
-"""Point 5: middle, joined, neighbours, narrowest; what holds by c."""
+"""Point 5: middle, joined, neighbours, narrowest, centre, motion; what holds by c."""
 
 import unittest
 
-from tests.helper import ask, hall, last
+from tests.helper import LARGEST, ask, hall, last
 
 NOBODY = [("begin", 0, 1)]
 
@@ -115,3 +115,55 @@ class Narrowest(unittest.TestCase):
     def test_nobody_and_one(self):
         self.assertEqual(last(*NOBODY, ("narrowest",)), [-33])
         self.assertEqual(last(*hall([7], places=[9]), ("narrowest",)), [0, 1, 7])
+
+
+class Centre(unittest.TestCase):
+    def test_seats_weigh(self):
+        # 3 * 10 + 1 * 20 from 0, 2 * 10 + 1 * 10 from 10.
+        self.assertEqual(last(*hall([2, 3, 1], places=[0, 10, 20]), ("centre",)), [10, 30])
+        self.assertEqual(last(*hall([9, 3, 1], places=[0, 10, 20]), ("centre",)), [0, 50])
+        self.assertEqual(last(*hall([1, 3, 9], places=[0, 10, 30]), ("centre",)), [30, 90])
+
+    def test_of_like_places_the_first(self):
+        self.assertEqual(last(*hall([5, 5], places=[12, 7]), ("centre",)), [7, 25])
+        self.assertEqual(last(*hall([2, 2, 1, 3], places=[3, 8, 20, 25]), ("centre",)), [8, 73])
+
+    def test_two_who_want_the_same(self):
+        self.assertEqual(last(*hall([3, 4, 5], places=[9, 9, 20]), ("centre",)), [9, 55])
+
+    def test_the_second_question_does_not_count(self):
+        self.assertEqual(last(*hall([3], places=[9]), ("wants", 0, 9, 30), ("centre",)), [9, 0])
+
+    def test_how_much_it_cares_does_not_count(self):
+        self.assertEqual(last(*hall([3, 2], places=[9, 0]), ("cares", 1, 5, 5), ("centre",)), [9, 18])
+
+    def test_nobody_and_one(self):
+        self.assertEqual(last(*NOBODY, ("centre",)), [0, 0])
+        self.assertEqual(last(*hall([7], places=[30]), ("centre",)), [30, 0])
+
+
+class Motion(unittest.TestCase):
+    THREE = hall([5, 4, 3], places=[10, 0, 30])
+
+    def test_nearer_to_the_one_and_to_the_other(self):
+        self.assertEqual(ask(*self.THREE, ("motion", 0, 30), ("motion", 30, 0), ("motion", 10, 12))[-3:],
+                         [[9, 3], [3, 9], [9, 3]])
+
+    def test_just_between(self):
+        self.assertEqual(ask(*self.THREE, ("motion", 5, 15), ("motion", 20, 0), ("motion", 0, 20))[-3:],
+                         [[4, 3], [3, 4], [4, 3]])
+
+    def test_the_same_place(self):
+        self.assertEqual(ask(*self.THREE, ("motion", 10, 10), ("motion", 0, 0))[-2:], [[0, 0], [0, 0]])
+
+    def test_it_is_the_first_question(self):
+        self.assertEqual(last(*hall([5], places=[10]), ("wants", 0, 10, 30), ("motion", 9, 30)), [5, 0])
+
+    def test_refused(self):
+        self.assertEqual(
+            ask(*self.THREE, ("motion", 31, 0), ("motion", 0, 31), ("motion", 31, 31), ("motion", LARGEST, 0),
+                ("motion", 30, 30), ("motion", 0, LARGEST))[4:],
+            [[-22], [-22], [-22], [-22], [0, 0], [-22]])
+
+    def test_nobody(self):
+        self.assertEqual(ask(*NOBODY, ("motion", 0, 30), ("motion", 0, 31))[1:], [[0, 0], [-22]])

@@ -4,7 +4,7 @@ import copy
 import random
 import unittest
 from fractions import Fraction
-from itertools import combinations
+from itertools import combinations, permutations, product
 
 from tests.helper import LARGEST, ask
 
@@ -99,17 +99,100 @@ class Model:
     def wide(self, group):
         return max(self.place(a) - self.place(b) for a in group for b in group)
 
-    def install(self, group):
+    def turns(self, group):
         had = {i: 0 for i in group}
-        holders = {}
+        order = []
         for turn in range(self.hall["m"]):
-            chosen = min(group, key=lambda i: (-Fraction(self.hall["parties"][i]["n"], had[i] + 1), i))
-            had[chosen] += 1
-            worth = self.hall["parties"][chosen]["worth"]
-            office = min((o for o in range(self.hall["m"]) if o not in holders), key=lambda o: (-worth[o], o))
-            holders[office] = chosen
+            order.append(min(group, key=lambda i: (-Fraction(self.hall["parties"][i]["n"], had[i] + 1), i)))
+            had[order[-1]] += 1
+        return order
+
+    def worth(self, i, o):
+        return self.hall["parties"][i]["worth"][o]
+
+    def plainly(self, i, gone):
+        return min((o for o in range(self.hall["m"]) if o not in gone), key=lambda o: (-self.worth(i, o), o))
+
+    def plain(self, group):
+        taken = []
+        for i in self.turns(group):
+            taken.append(self.plainly(i, taken))
+        return taken
+
+    def total(self, i, order, taken):
+        return sum(self.worth(i, o) for j, o in zip(order, taken) if i == j)
+
+    def ahead(self, group):
+        """Of all that could be, from the last turn to the first, what nobody would choose is struck out."""
+        order = self.turns(group)
+        left = list(permutations(range(self.hall["m"])))
+        for turn in reversed(range(self.hall["m"])):
+            best = {}
+            for taken in sorted(left):
+                kept = best.setdefault(taken[:turn], taken)
+                if self.total(order[turn], order, taken) > self.total(order[turn], order, kept):
+                    best[taken[:turn]] = taken
+            left = list(best.values())
+        return list(left[0])
+
+    def taken(self, group, k):
+        self.need(k in (0, 1), -22)
+        return self.ahead(group) if k else self.plain(group)
+
+    def install(self, group):
+        order = self.turns(group)
+        holders = dict(zip(self.plain(group), order))
         self.hall["cabinet"] = group
-        return [holders[office] for office in range(self.hall["m"])]
+        self.hall["holders"] = [holders[office] for office in range(self.hall["m"])]
+        return self.hall["holders"]
+
+    def far(self, i, sharing):
+        me, first, second = (self.hall["parties"][j] for j in (i, *sharing))
+        return me["p"] * abs(first["x"] - me["x"]) + me["q"] * abs(second["y"] - me["y"])
+
+    def lovers(self, one, other):
+        return {i for i in self.all() if self.far(i, one) < self.far(i, other)}
+
+    def beating(self, one, other):
+        return self.winning(self.lovers(one, other))
+
+    def unseating(self, one, other):
+        return self.beating(one, other) and set(one) <= self.lovers(one, other)
+
+    def sharings(self):
+        return sorted(product(self.all(), repeat=2))
+
+    def paired(self, pairs):
+        return [len(pairs)] + [number for pair in pairs for number in pair]
+
+    def walk(self, now, after):
+        seen = set()
+        come = []
+        while now not in seen and after(now):
+            seen.add(now)
+            now = after(now)[0]
+            come.append(now)
+        return come
+
+    def may(self, group):
+        return self.winning(group) and not any(self.hating(i, j) for i, j in combinations(group, 2))
+
+    def mays(self):
+        return sorted(filter(self.may, self.groups()), key=self.number)
+
+    def dealt(self, group):
+        return [self.turns(group).count(i) for i in range(5)]
+
+    def left(self, group):
+        had = self.dealt(group)
+        return [other for other in self.mays() if all(self.dealt(other)[i] > had[i] for i in other)]
+
+    def middling(self, i, question):
+        half = Fraction(self.seats(self.all()), 2)
+        me = self.hall["parties"][i][question]
+        less = [j for j in self.all() if self.hall["parties"][j][question] < me]
+        more = [j for j in self.all() if self.hall["parties"][j][question] > me]
+        return self.seats(less) <= half and self.seats(more) <= half
 
     def settled(self):
         if self.hall["cabinet"] and not self.firm(self.hall["cabinet"]):
@@ -190,6 +273,7 @@ class Model:
         self.need(i in self.hall["cabinet"], -6)
         self.hall["cabinet"] -= {i}
         if self.firm(self.hall["cabinet"]):
+            self.install(self.hall["cabinet"])
             return [0]
         self.hall["cabinet"] = frozenset()
         return [1]
@@ -237,11 +321,7 @@ class Model:
         return [len([g for g in self.firm_ones() if i in g]), len(self.firm_ones())]
 
     def call_middle(self):
-        half = Fraction(self.seats(self.all()), 2)
-        found = [
-            i for i in sorted(self.all())
-            if self.seats(j for j in self.all() if self.place(j) < self.place(i)) <= half
-            and self.seats(j for j in self.all() if self.place(j) > self.place(i)) <= half]
+        found = [i for i in sorted(self.all()) if self.middling(i, "x")]
         return [len(found)] + found
 
     def call_joined(self, s):
@@ -259,8 +339,133 @@ class Model:
         width, seats, number = min((self.wide(g), self.seats(g), self.number(g)) for g in self.groups() if self.winning(g))
         return [width, number, seats]
 
+    def call_centre(self):
+        away = [
+            (sum(abs(place - party["x"]) for party in self.hall["parties"] for _ in range(party["n"])), place)
+            for place in range(101)]
+        return [min(away)[1], min(away)[0]]
 
-QUESTIONS = "standing tight fewest smallest middle neighbours narrowest".split()
+    def call_motion(self, x, y):
+        self.need(x <= 30 and y <= 30, -22)
+        ways = [(abs(self.place(i) - x), abs(self.place(i) - y), i) for i in self.all()]
+        return [self.seats(i for to_x, to_y, i in ways if to_x < to_y), self.seats(i for to_x, to_y, i in ways if to_y < to_x)]
+
+    def call_order(self, s):
+        return [self.hall["m"]] + self.turns(self.group(s))
+
+    def call_plain(self, s):
+        return [self.hall["m"]] + self.plain(self.group(s))
+
+    def call_ahead(self, s):
+        return [self.hall["m"]] + self.ahead(self.group(s))
+
+    def call_alone(self, s, i):
+        group = self.group(s)
+        self.party(i)
+        self.need(i in group, -6)
+        order = self.turns(group)
+        could = [
+            taken for taken in permutations(range(self.hall["m"]))
+            if all(j == i or taken[turn] == self.plainly(j, taken[:turn]) for turn, j in enumerate(order))]
+        return [max(self.total(i, order, taken) for taken in could), self.total(i, order, self.plain(group))]
+
+    def call_gains(self, s, k):
+        group = self.group(s)
+        taken = self.taken(group, k)
+        return [len(group)] + [self.total(i, self.turns(group), taken) for i in sorted(group)]
+
+    def call_swaps(self, s, k):
+        group = self.group(s)
+        holds = dict(zip(self.taken(group, k), self.turns(group)))
+        return self.paired([
+            (a, b) for a, b in combinations(range(self.hall["m"]), 2)
+            if self.worth(holds[a], b) > self.worth(holds[a], a) and self.worth(holds[b], a) > self.worth(holds[b], b)])
+
+    def call_beats(self, a, b, c, d):
+        for i in (a, b, c, d):
+            self.party(i)
+        one, other = (a, b), (c, d)
+        return [int(self.beating(one, other)), self.seats(self.lovers(one, other)), self.seats(self.lovers(other, one))]
+
+    def sharing(self, a, b):
+        self.party(a)
+        self.party(b)
+        return a, b
+
+    def call_beaters(self, a, b):
+        sharing = self.sharing(a, b)
+        return self.paired([other for other in self.sharings() if self.beating(other, sharing)])
+
+    def call_unseaters(self, a, b):
+        sharing = self.sharing(a, b)
+        return self.paired([other for other in self.sharings() if self.unseating(other, sharing)])
+
+    def call_calm(self):
+        return self.paired([
+            one for one in self.sharings() if not any(self.beating(other, one) for other in self.sharings())])
+
+    def call_holding(self):
+        return self.paired([
+            one for one in self.sharings() if not any(self.unseating(other, one) for other in self.sharings())])
+
+    def call_middles(self):
+        return self.paired([(a, b) for a, b in self.sharings() if self.middling(a, "x") and self.middling(b, "y")])
+
+    def call_strong(self):
+        found = [
+            i for i in sorted(self.all())
+            if not any(self.beating((a, b), (i, i)) for a, b in self.sharings() if a != i and b != i)]
+        return [len(found)] + found
+
+    def call_fall(self, a, b):
+        after = lambda one: [other for other in self.sharings() if self.unseating(other, one)]
+        return self.paired(self.walk(self.sharing(a, b), after))
+
+    def call_deal(self, s):
+        group = self.group(s)
+        return [int(self.may(group))] + self.dealt(group)
+
+    def call_mays(self):
+        return self.listed(self.mays())
+
+    def call_leave(self, s):
+        return self.listed(self.left(self.group(s)))
+
+    def call_stable(self):
+        return self.listed([group for group in self.mays() if not self.left(group)])
+
+    def call_on(self, s):
+        come = self.walk(self.group(s), self.left)
+        return [len(come)] + [self.number(group) for group in come]
+
+    def call_best(self, i):
+        self.party(i)
+        own = [group for group in self.mays() if i in group]
+        self.need(own, -33)
+        offices, number = min((-self.dealt(group)[i], self.number(group)) for group in own)
+        return [-offices, number]
+
+    def call_governs(self):
+        self.need(self.hall["cabinet"], -6)
+        return [self.number(self.hall["cabinet"])] + (self.hall["holders"] + [0] * 5)[:5]
+
+    def call_look(self, i):
+        party = self.party(i)
+        return [party[name] for name in "nxypq"] + (party["worth"] + [0] * 5)[:5]
+
+    def call_state(self):
+        hall = self.hall
+        return [len(hall["parties"]), hall["rule"], hall["m"], len(hall["likes"]), len(hall["hates"]),
+                self.number(hall["cabinet"]), len(self.done), len(self.undone)]
+
+
+QUESTIONS = (
+    "standing tight fewest smallest middle neighbours narrowest centre calm holding middles strong mays stable"
+    " governs state"
+).split()
+OF_A_PARTY = "part best look".split()
+OF_A_SET = "vote stands joined order plain ahead deal leave on".split()
+OF_A_SHARING = "beaters unseaters fall".split()
 
 
 class Caller:
@@ -288,19 +493,20 @@ class Caller:
         return self.number(1, 31) if self.chance.random() < 0.3 else self.number(1, 7)
 
     def new_party(self):
-        return ("party", self.number(1, self.scale), self.number(0, self.width), self.number(0, 30),
+        return ("party", self.number(1, self.scale), self.number(0, self.width), self.number(0, self.width),
                 self.number(1, 5), self.number(1, 5), self.worth())
 
     def call(self):
         kind = self.chance.choices(
-            "party seats wants cares worth feeling form leaves resign history group part question begin".split(),
-            (4, 8, 4, 1, 2, 16, 8, 5, 3, 8, 10, 3, 14, 0.3))[0]
+            "party seats wants cares worth feeling form leaves resign history group one question begin"
+            " motion alone ways beats sharing".split(),
+            (4, 8, 4, 3, 4, 16, 8, 5, 3, 8, 14, 5, 24, 0.3, 2, 4, 6, 4, 5))[0]
         if kind == "party":
             return self.new_party()
         if kind == "seats":
             return ("seats", self.party(), self.number(1, self.scale))
         if kind == "wants":
-            return ("wants", self.party(), self.number(0, self.width), self.number(0, 30))
+            return ("wants", self.party(), self.number(0, self.width), self.number(0, self.width))
         if kind == "cares":
             return ("cares", self.party(), self.number(1, 5), self.number(1, 5))
         if kind == "worth":
@@ -309,14 +515,26 @@ class Caller:
             return (self.chance.choice(("like", "like", "hate", "forget", "forget")), self.party(), self.party())
         if kind == "form":
             return ("form", self.group())
-        if kind in ("leaves", "part"):
-            return (kind, self.party())
+        if kind == "leaves":
+            return ("leaves", self.party())
+        if kind == "one":
+            return (self.chance.choice(OF_A_PARTY), self.party())
         if kind == "resign":
             return ("resign",)
         if kind == "history":
             return (self.chance.choice(("back", "again")),)
         if kind == "group":
-            return (self.chance.choice(("vote", "stands", "joined")), self.group())
+            return (self.chance.choice(OF_A_SET), self.group())
+        if kind == "motion":
+            return ("motion", self.number(0, 30), self.number(0, 30))
+        if kind == "alone":
+            return ("alone", self.group(), self.party())
+        if kind == "ways":
+            return (self.chance.choice(("gains", "swaps")), self.group(), self.number(0, 1))
+        if kind == "beats":
+            return ("beats", self.party(), self.party(), self.party(), self.party())
+        if kind == "sharing":
+            return (self.chance.choice(OF_A_SHARING), self.party(), self.party())
         if kind == "question":
             return (self.chance.choice(QUESTIONS),)
         self.offices = self.chance.randint(1, 5)
@@ -330,7 +548,7 @@ class Caller:
 
 class BesideTheModel(unittest.TestCase):
     def test_same_answers(self):
-        for seed in range(400):
+        for seed in range(300):
             calls = Caller(seed).calls()
             found = ask(*calls)
             model = Model()
@@ -338,3 +556,47 @@ class BesideTheModel(unittest.TestCase):
                 expected = model.answer(*call)
                 if found[at] != expected:
                     self.fail(f"seed {seed}, call {at}, {call}: {found[at]}, expected {expected}")
+
+    def test_all_questions_in_large_halls(self):
+        for seed in range(1000, 1040):
+            chance = random.Random(seed)
+            parties = chance.choice((4, 5, 5))
+            before = large_hall(chance, parties, 5)
+            calls = before + chance.sample(all_questions(parties), 250)
+            found = ask(*calls)
+            model = Model()
+            for at, call in enumerate(calls):
+                expected = model.answer(*call)
+                if found[at] != expected:
+                    self.fail(f"seed {seed}, call {at}, {call}: {found[at]}, expected {expected}")
+
+
+def large_hall(chance, parties, offices):
+    calls = [("begin", chance.randint(0, 2), offices)]
+    width = chance.choice((3, 8, 30))
+    low, high = chance.choice(((1, 5), (1, 200), (20, 40), (30, 40)))
+    for i in range(parties):
+        worth = [chance.randint(0, chance.choice((5, 50))) for _ in range(offices)]
+        if chance.random() < 0.7:
+            worth = chance.sample(range(1, offices + 1), offices)
+        calls.append(("party", chance.randint(low, high), chance.randint(0, width), chance.randint(0, width),
+                      chance.randint(1, 5), chance.randint(1, 5), worth))
+    for i, j in product(range(parties), repeat=2):
+        if i != j and chance.random() < 0.2:
+            calls.append(("like", i, j))
+        if i < j and chance.random() < 0.1:
+            calls.append(("hate", i, j))
+    return calls + [("form", 1 + chance.randrange(2 ** parties - 1)) for _ in range(3)]
+
+
+def all_questions(parties):
+    groups = range(1, 2 ** parties)
+    pairs = list(product(range(parties), repeat=2))
+    calls = [(name,) for name in QUESTIONS]
+    calls += [(name, i) for name in OF_A_PARTY for i in range(parties)]
+    calls += [(name, s) for name in OF_A_SET for s in groups]
+    calls += [(name, *pair) for name in OF_A_SHARING for pair in pairs]
+    calls += [(name, s, k) for name in ("gains", "swaps") for s in groups for k in (0, 1)]
+    calls += [("alone", s, i) for s in groups for i in range(parties)]
+    calls += [("beats", *one, *other) for one in pairs[::3] for other in pairs[::4]]
+    return calls + [("motion", x, y) for x in range(0, 31, 3) for y in range(0, 31, 4)]
