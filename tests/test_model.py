@@ -547,28 +547,24 @@ class Caller:
 
 
 class BesideTheModel(unittest.TestCase):
-    def test_same_answers(self):
+    def check(self, seed, calls):
+        found = ask(*calls)
+        model = Model()
+        for at, call in enumerate(calls):
+            expected = model.answer(*call)
+            if found[at] != expected:
+                self.fail(f"seed {seed}, call {at}, {call}: {found[at]}, expected {expected}")
+
+    def test_calls_of_all_kinds(self):
         for seed in range(300):
-            calls = Caller(seed).calls()
-            found = ask(*calls)
-            model = Model()
-            for at, call in enumerate(calls):
-                expected = model.answer(*call)
-                if found[at] != expected:
-                    self.fail(f"seed {seed}, call {at}, {call}: {found[at]}, expected {expected}")
+            self.check(seed, Caller(seed).calls())
 
     def test_all_questions_in_large_halls(self):
         for seed in range(1000, 1040):
             chance = random.Random(seed)
             parties = chance.choice((4, 5, 5))
             before = large_hall(chance, parties, 5)
-            calls = before + chance.sample(all_questions(parties), 250)
-            found = ask(*calls)
-            model = Model()
-            for at, call in enumerate(calls):
-                expected = model.answer(*call)
-                if found[at] != expected:
-                    self.fail(f"seed {seed}, call {at}, {call}: {found[at]}, expected {expected}")
+            self.check(seed, before + chance.sample(all_questions(parties), 250))
 
 
 def large_hall(chance, parties, offices):

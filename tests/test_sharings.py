@@ -65,6 +65,10 @@ class Beaters(unittest.TestCase):
         self.assertEqual(last(*BETWEEN, ("beaters", 0, 0)), [5, 0, 1, 1, 0, 1, 1, 1, 2, 2, 1])
         self.assertEqual(last(*ONE_LINE, ("beaters", 0, 0)), [6, 1, 0, 1, 1, 1, 2, 2, 0, 2, 1, 2, 2])
 
+    def test_two_holders(self):
+        self.assertEqual(ask(*ROUND, ("beaters", 0, 2), ("beaters", 2, 0))[-2:],
+                         [[3, 0, 0, 0, 1, 1, 2], [6, 0, 0, 0, 1, 0, 2, 1, 0, 1, 1, 1, 2]])
+
     def test_whoever_holds(self):
         # By (1, 0) party 1 gives up what it wants: it beats (1, 1) all the same.
         self.assertEqual(last(*STRONG, ("beaters", 1, 1)), [1, 1, 0])
@@ -82,6 +86,11 @@ class Unseaters(unittest.TestCase):
     def test_both_holders_would_rather(self):
         # Of those that beat it party 0 would have neither (0, 1) nor (1, 0).
         self.assertEqual(last(*BETWEEN, ("unseaters", 0, 0)), [3, 1, 1, 1, 2, 2, 1])
+
+    def test_two_holders(self):
+        # Of those that beat (2, 0) party 2 would rather have none, and is a holder of (0, 2) and (1, 2).
+        self.assertEqual(ask(*ROUND, ("unseaters", 0, 2), ("unseaters", 2, 0))[-2:],
+                         [[3, 0, 0, 0, 1, 1, 2], [4, 0, 0, 0, 1, 1, 0, 1, 1]])
 
     def test_one_of_its_holders_would_not(self):
         # The holder of the first question would not; with the questions turned round that of the second.
